@@ -232,63 +232,19 @@ func TestBigIntFloorDivByWhatIsNoDivisor(t *testing.T) {
 	}
 }
 
-// checkLaw compares both sides of a law for some numbers.
-func checkLaw(t *testing.T, law string, l, r impl.BigInt, of ...impl.BigInt) {
-	t.Helper()
-	if !sameBigInt(l, r) || !impl.BigIntOk(l) {
-		t.Fatalf("%s fails for %v: %v and %v", law, of, l, r)
-	}
+var bigInts = numbers[impl.BigInt]{
+	add: impl.BigIntAdd, sub: impl.BigIntSub, mul: impl.BigIntMul, neg: impl.BigIntNeg, cmp: impl.BigIntCmp,
+	of: impl.BigIntOf, ok: impl.BigIntOk, same: sameBigInt,
 }
 
 // P1: the laws of arithmetic, by the package's functions alone. The numbers are small enough for all the products.
 func TestBigIntLaws(t *testing.T) {
 	random := rand.New(rand.NewSource(23))
-	add, sub, mul, neg := impl.BigIntAdd, impl.BigIntSub, impl.BigIntMul, impl.BigIntNeg
-	zero, one, minusOne := impl.BigIntOf(0), impl.BigIntOf(1), impl.BigIntOf(-1)
 	for range 4000 {
 		x, y, z := randomBigInt(random, 20), randomBigInt(random, 20), randomBigInt(random, 19)
-		checkLaw(t, "x + y = y + x", add(x, y), add(y, x), x, y)
-		checkLaw(t, "x * y = y * x", mul(x, y), mul(y, x), x, y)
-		checkLaw(t, "(x + y) + z = x + (y + z)", add(add(x, y), z), add(x, add(y, z)), x, y, z)
-		checkLaw(t, "(x * y) * z = x * (y * z)", mul(mul(x, y), z), mul(x, mul(y, z)), x, y, z)
-		checkLaw(t, "x * (y + z) = x * y + x * z", mul(x, add(y, z)), add(mul(x, y), mul(x, z)), x, y, z)
-		checkLaw(t, "x * (y - z) = x * y - x * z", mul(x, sub(y, z)), sub(mul(x, y), mul(x, z)), x, y, z)
-		checkLaw(t, "x - y = x + -y", sub(x, y), add(x, neg(y)), x, y)
-		checkLaw(t, "x - y = -(y - x)", sub(x, y), neg(sub(y, x)), x, y)
-		checkLaw(t, "x + y - y = x", sub(add(x, y), y), x, x, y)
-		checkLaw(t, "--x = x", neg(neg(x)), x, x)
-		checkLaw(t, "x + -x = 0", add(x, neg(x)), zero, x)
-		checkLaw(t, "x - x = 0", sub(x, x), zero, x)
-		checkLaw(t, "x + 0 = x", add(x, zero), x, x)
-		checkLaw(t, "0 - x = -x", sub(zero, x), neg(x), x)
-		checkLaw(t, "x * 1 = x", mul(x, one), x, x)
-		checkLaw(t, "x * -1 = -x", mul(x, minusOne), neg(x), x)
-		checkLaw(t, "x * 0 = 0", mul(x, zero), zero, x)
-		checkBigIntOrder(t, x, y, z)
+		bigInts.checkArithmetic(t, x, y, z)
+		bigInts.checkOrder(t, x, y, z)
 		checkFloorDivLaws(t, x, y, z)
-	}
-}
-
-func checkBigIntOrder(t *testing.T, x, y, z impl.BigInt) {
-	t.Helper()
-	order := impl.BigIntCmp(x, y)
-	if order != -impl.BigIntCmp(y, x) || (order == 0) != sameBigInt(x, y) || impl.BigIntCmp(x, x) != 0 {
-		t.Fatalf("the order of %v and %v is not one", x, y)
-	}
-	if impl.BigIntCmp(impl.BigIntNeg(x), impl.BigIntNeg(y)) != -order {
-		t.Fatalf("the negatives of %v and %v do not have the opposite order", x, y)
-	}
-	if impl.BigIntCmp(impl.BigIntSub(x, y), impl.BigInt{}) != order {
-		t.Fatalf("the difference of %v and %v does not agree with their order", x, y)
-	}
-	if impl.BigIntCmp(impl.BigIntAdd(x, z), impl.BigIntAdd(y, z)) != order {
-		t.Fatalf("adding %v to %v and %v changes their order", z, x, y)
-	}
-	if impl.BigIntCmp(impl.BigIntMul(x, z), impl.BigIntMul(y, z)) != order*impl.BigIntCmp(z, impl.BigInt{}) {
-		t.Fatalf("multiplying %v and %v by %v gives a wrong order", x, y, z)
-	}
-	if order <= 0 && impl.BigIntCmp(y, z) <= 0 && impl.BigIntCmp(x, z) > 0 {
-		t.Fatalf("the order of %v, %v and %v is not transitive", x, y, z)
 	}
 }
 
@@ -299,13 +255,13 @@ func checkFloorDivLaws(t *testing.T, x, y, z impl.BigInt) {
 	}
 	m := impl.BigInt{Mag: y.Mag}
 	q, r := impl.BigIntFloorDiv(x, y.Mag)
-	checkLaw(t, "m * q + r = x", impl.BigIntAdd(impl.BigIntMul(m, q), impl.BigInt{Mag: r}), x, m, x)
+	bigInts.law(t, "m * q + r = x", impl.BigIntAdd(impl.BigIntMul(m, q), impl.BigInt{Mag: r}), x, m, x)
 	if impl.NatCmp(r, y.Mag) != -1 {
 		t.Fatalf("the remainder of %v and %v is %v", x, y.Mag, r)
 	}
 	q, r = impl.BigIntFloorDiv(impl.BigIntMul(z, m), y.Mag)
-	checkLaw(t, "z * m / m = z", q, z, m, z)
-	checkLaw(t, "z * m mod m = 0", impl.BigInt{Mag: r}, impl.BigInt{}, m, z)
+	bigInts.law(t, "z * m / m = z", q, z, m, z)
+	bigInts.law(t, "z * m mod m = 0", impl.BigInt{Mag: r}, impl.BigInt{}, m, z)
 }
 
 func TestBigIntResultsOfZeroHaveNoSign(t *testing.T) {

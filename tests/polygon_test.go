@@ -33,17 +33,22 @@ func isBefore(a, b impl.Vec) bool {
 	return a.X < b.X || a.X == b.X && a.Y < b.Y
 }
 
-// wantedHull wraps a string round the points: the next corner has all other points to the left, and none behind it.
-func wantedHull(l []impl.Vec) []impl.Vec {
-	if len(l) == 0 {
-		return nil
-	}
+func leftmost(l []impl.Vec) impl.Vec {
 	first := l[0]
 	for _, p := range l {
 		if isBefore(p, first) {
 			first = p
 		}
 	}
+	return first
+}
+
+// wantedHull wraps a string round the points: the next corner has all other points to the left, and none behind it.
+func wantedHull(l []impl.Vec) []impl.Vec {
+	if len(l) == 0 {
+		return nil
+	}
+	first := leftmost(l)
 	hull := []impl.Vec{first}
 	for at := first; ; {
 		next := at

@@ -827,16 +827,18 @@ func pointPairs() [][2]impl.Point {
 	return pairs
 }
 
+func framedPoint(p impl.Point) (rows [][]int, inside impl.Point) {
+	rowsX, x := framedRat(p.X)
+	rowsY, y := framedRat(p.Y)
+	return slices.Concat(rowsX[:], rowsY[:]), impl.Point{X: x, Y: y}
+}
+
 func TestPointFunctionsLeaveTheirArgumentsAlone(t *testing.T) {
 	for _, pair := range pointPairs() {
-		var rows, was [][]int
-		framedPoint := func(p impl.Point) impl.Point {
-			rowsX, x := framedRat(p.X)
-			rowsY, y := framedRat(p.Y)
-			rows = append(append(rows, rowsX[:]...), rowsY[:]...)
-			return impl.Point{X: x, Y: y}
-		}
-		p, q := framedPoint(pair[0]), framedPoint(pair[1])
+		var was [][]int
+		rowsP, p := framedPoint(pair[0])
+		rowsQ, q := framedPoint(pair[1])
+		rows := slices.Concat(rowsP, rowsQ)
 		for _, row := range rows {
 			was = append(was, slices.Clone(row))
 		}

@@ -959,22 +959,17 @@ func TestPolygonFunctionsLeaveTheirArgumentsAlone(t *testing.T) {
 		row, inside := framedVecs(l)
 		otherRow, other := framedVecs(reversed(l))
 		wasRow, wasOther := slices.Clone(row), slices.Clone(otherRow)
-		rowsX, x := framedRat(long.X)
-		rowsY, y := framedRat(long.Y)
+		rows, p := framedPoint(long)
 		for _, m := range [][]impl.Vec{other, inside} {
-			for name, result := range polygonResults(inside, m, impl.Point{X: x, Y: y}) {
+			for name, result := range polygonResults(inside, m, p) {
 				overwriteVecs(result)
 				if !slices.Equal(row, wasRow) || !slices.Equal(otherRow, wasOther) {
 					t.Fatalf("%s of %v, or a write to its result, changed an argument", name, l)
 				}
 			}
 		}
-		wasX, _ := framedRat(long.X)
-		wasY, _ := framedRat(long.Y)
-		for i := range wasX {
-			if !slices.Equal(rowsX[i], wasX[i]) || !slices.Equal(rowsY[i], wasY[i]) {
-				t.Fatalf("ContainsPoint of %v changed the point", l)
-			}
+		if was, _ := framedPoint(long); !slices.EqualFunc(rows, was, slices.Equal[[]int]) {
+			t.Fatalf("ContainsPoint of %v changed the point", l)
 		}
 	}
 }

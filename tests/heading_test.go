@@ -485,9 +485,6 @@ func TestDiscTouchesNothingThatIsTooFarAway(t *testing.T) {
 // squaresAround are squares of discs that just touch and just do not touch, and others.
 func squaresAround(distance *big.Rat) []int {
 	l := []int{0, -1, math.MaxInt}
-	if distance == nil {
-		return l
-	}
 	if below := new(big.Int).Quo(distance.Num(), distance.Denom()); below.IsInt64() && below.Int64() < math.MaxInt {
 		n := int(below.Int64())
 		l = append(l, n-1, n, n+1)
@@ -495,19 +492,20 @@ func squaresAround(distance *big.Rat) []int {
 	return l
 }
 
-// checkDisc compares with a distance that is nil if a fraction on the way is too long, and counts the kinds of discs.
-func checkDisc(t *testing.T, l []impl.Vec, p bigPoint, distance *big.Rat, found map[string]int) {
+// checkDisc compares with the exact distance, and counts the kinds of discs by the fraction that SquareToPolygon finds.
+func checkDisc(t *testing.T, l []impl.Vec, p bigPoint, found map[string]int) {
 	t.Helper()
+	distance, kind := exactBetween(l, p, p), kindOf(wantedToPolygon(l, p))
 	for _, n := range squaresAround(distance) {
-		want := distance != nil && distance.Cmp(big.NewRat(int64(n), 1)) <= 0
+		want := distance.Cmp(big.NewRat(int64(n), 1)) <= 0
 		if got := impl.DiscTouches(l, p.point(), n); got != want {
 			t.Fatalf("DiscTouches(%v, %s, %d) = %v", l, impl.FormatPoint(p.point()), n, got)
 		}
-		kind := kindOf(distance)
 		if want {
-			kind = "touches, " + kind
+			found["touches, "+kind]++
+		} else {
+			found[kind]++
 		}
-		found[kind]++
 	}
 }
 
@@ -520,7 +518,7 @@ func TestDiscTouchesOnAGrid(t *testing.T) {
 				continue
 			}
 			p := bigPoint{big.NewRat(int64(v.X), 2), big.NewRat(int64(v.Y), 2)}
-			checkDisc(t, l, p, exactBetween(l, p, p), found)
+			checkDisc(t, l, p, found)
 		}
 	}
 	if found["positive"] < 1000 || found["touches, positive"] < 1000 || found["touches, 0"] < 1000 {
@@ -546,24 +544,25 @@ func TestDiscTouchesAsTheDistanceSays(t *testing.T) {
 		points := slices.DeleteFunc(pointsAlong(random, l), isZeroPoint)
 		for range 3 {
 			for _, p := range []bigPoint{bigPointOf(points[random.Intn(len(points))]), longPointAt(random, l[random.Intn(len(l))])} {
-				checkDisc(t, l, p, wantedToPolygon(l, p), found)
+				checkDisc(t, l, p, found)
 			}
 		}
 		for _, q := range []impl.Point{smallPoint(random), impl.PointOf(randomVec(random)), impl.PointOf(l[0])} {
 			p := bigPointOf(q)
-			checkDisc(t, l, p, exactBetween(l, p, p), found)
+			checkDisc(t, l, p, found)
 		}
 	}
-	for _, kind := range []string{"too long", "positive", "touches, positive", "touches, 0"} {
+	for _, kind := range []string{"too long", "touches, too long", "positive", "touches, positive", "touches, 0"} {
 		if found[kind] < 500 {
 			t.Errorf("the discs are too much alike: %v", found)
 		}
 	}
 }
 
-// A disc touches nothing if the distance from any edge is too long a fraction, unless its center is in the polygon.
+// The length of the fraction of a distance does not count: a center outside is answered for exactly.
 func TestDiscTouchesAtTheLimitOfLimbs(t *testing.T) {
 	triangle := vecs(0, 0, 1, 0, 0, 1)
+	const never = -1
 	zero, top := impl.RatFromInt(0), wholeOf(longest())
 	over11, over12 := fraction(false, []int{1}, unit(11)), fraction(false, []int{1}, unit(12))
 	point := func(x, y impl.Rat) impl.Point { return impl.Point{X: x, Y: y} }
@@ -573,21 +572,89 @@ func TestDiscTouchesAtTheLimitOfLimbs(t *testing.T) {
 		least int
 	}{
 		{"a square of 23 limbs", point(zero, impl.RatNeg(over11)), 1},
-		{"a square of 25 limbs", point(zero, impl.RatNeg(over12)), -1},
-		{"a square of 25 limbs along X", point(impl.RatNeg(over12), zero), -1},
-		{"the least fraction outside", point(impl.RatNeg(fraction(false, []int{1}, longest())), zero), -1},
+		{"a square of 25 limbs", point(zero, impl.RatNeg(over12)), 1},
+		{"a square of 25 limbs along X", point(impl.RatNeg(over12), zero), 1},
+		{"the least fraction outside", point(impl.RatNeg(fraction(false, []int{1}, longest())), zero), 1},
+		{"the least fraction outside, in both coordinates", point(impl.RatNeg(fraction(false, []int{1}, longest())), fraction(true, []int{1}, unit(23))), 1},
 		{"inside", point(over12, over12), 0},
 		{"inside, at the limit", point(fraction(false, []int{1}, longest()), over12), 0},
 		{"on an edge", point(over12, zero), 0},
-		{"the greatest fraction", point(top, zero), -1},
-		{"the least one", point(over11, impl.RatNeg(top)), -1},
-		{"a square of 23 limbs, far away", point(wholeOf(unit(11)), zero), -1},
+		{"the greatest fraction", point(top, zero), never},
+		{"the greatest fraction, in both coordinates", point(top, impl.RatNeg(top)), never},
+		{"the least one", point(over11, impl.RatNeg(top)), never},
+		{"a square of 23 limbs, far away", point(wholeOf(unit(11)), zero), never},
+		{"a square of 25 limbs, far away", point(wholeOf(unit(12)), zero), never},
 	}
 	for _, c := range cases {
 		for k := range triangle {
 			for _, n := range []int{0, 1, 2, 1 << 40, math.MaxInt} {
-				if got, want := impl.DiscTouches(startedAt(triangle, k), c.p, n), c.least >= 0 && n >= c.least; got != want {
+				if got, want := impl.DiscTouches(startedAt(triangle, k), c.p, n), c.least != never && n >= c.least; got != want {
 					t.Errorf("%s: with a disc of %d it is %v", c.name, n, got)
+				}
+			}
+		}
+	}
+}
+
+// beyond is n and, times the sign, 1 / (10^108 + 1): a valid fraction whose square is too long.
+func beyond(n int, sign int) *big.Rat {
+	den := new(big.Int).Add(bigOf(unit(12)), big.NewInt(1))
+	return along(new(big.Rat).SetFrac(big.NewInt(1), den), sign, n)
+}
+
+// onCircle is a point with long fractions at a distance of exactly radius from v, downward and to the right.
+func onCircle(v impl.Vec, radius int) bigPoint {
+	n := bigOf(unit(6))
+	square, one := new(big.Int).Mul(n, n), big.NewInt(1)
+	den := new(big.Int).Add(square, one)
+	x := new(big.Rat).SetFrac(new(big.Int).Sub(square, one), den)
+	y := new(big.Rat).SetFrac(new(big.Int).Lsh(n, 1), den)
+	return bigPoint{along(x, radius, v.X), along(y, -radius, v.Y)}
+}
+
+// P4: the squares are just enough, and one less is just not; SquareToPolygon has no fraction for any of the centers.
+func TestDiscTouchesAroundALongPoint(t *testing.T) {
+	triangle := vecs(0, 0, 4, 0, 0, 4)
+	at := func(x, y *big.Rat) bigPoint { return bigPoint{x, y} }
+	cases := []struct {
+		name  string
+		p     bigPoint
+		least int
+	}{
+		{"a corner, at exactly 25", onCircle(impl.Vec{X: 4}, 5), 25},
+		{"a corner, at exactly 1", onCircle(impl.Vec{X: 4}, 1), 1},
+		{"a corner, at exactly the greatest square of an int", onCircle(impl.Vec{X: 4}, 3037000499), 3037000499 * 3037000499},
+		{"a corner, just beyond 25", at(beyond(9, 1), beyond(0, 0)), 26},
+		{"a corner, just within 25", at(beyond(9, -1), beyond(0, 0)), 25},
+		{"a corner, just beyond 25, aslant", at(beyond(7, 1), beyond(-4, -1)), 26},
+		{"a corner, just within 25, aslant", at(beyond(7, -1), beyond(-4, 1)), 25},
+		{"a corner, just within the greatest square and one more", at(beyond(3037000503, 1), beyond(0, -1)), 3037000499*3037000499 + 1},
+		{"a corner, just beside an edge", at(beyond(4, 1), beyond(-3, 0)), 10},
+		{"an edge, just beside a corner", at(beyond(4, -1), beyond(-3, 0)), 9},
+		{"an edge, at exactly 9", at(beyond(2, 1), beyond(-3, 0)), 9},
+		{"an edge, just beyond 9", at(beyond(2, 1), beyond(-3, -1)), 10},
+		{"an edge, just within 9", at(beyond(2, 1), beyond(-3, 1)), 9},
+		{"the last edge, at exactly 4", at(beyond(-2, 0), beyond(1, 1)), 4},
+		{"the last edge, just beyond 4", at(beyond(-2, -1), beyond(1, 1)), 5},
+		{"the last edge, just within 4", at(beyond(-2, 1), beyond(1, 1)), 4},
+		{"a slanting edge, at exactly 8", at(beyond(4, 1), beyond(4, -1)), 8},
+		{"a slanting edge, just beyond 8", at(beyond(4, 1), beyond(4, 0)), 9},
+		{"a slanting edge, just within 8", at(beyond(4, -1), beyond(4, 0)), 8},
+		{"an edge, just outside", at(beyond(1, 1), beyond(0, -1)), 1},
+	}
+	for _, c := range cases {
+		if square := wantedToPolygon(triangle, c.p); square != nil || !isFitting(c.p) {
+			t.Errorf("%s: the fractions are not as long as they should be: %v", c.name, square)
+		}
+		for k := range 4 {
+			p := c.p.turned(k).point()
+			for i := range triangle {
+				l := startedAt(turnedList(triangle, k), i)
+				if !impl.DiscTouches(l, p, c.least) || !impl.DiscTouches(l, p, math.MaxInt) {
+					t.Errorf("%s: a disc of %d does not touch", c.name, c.least)
+				}
+				if impl.DiscTouches(l, p, c.least-1) || impl.DiscTouches(l, p, -1) {
+					t.Errorf("%s: a disc of %d touches", c.name, c.least-1)
 				}
 			}
 		}

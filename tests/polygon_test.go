@@ -896,20 +896,7 @@ func TestParsePolygonOnTextsNearby(t *testing.T) {
 		}
 	}
 	for _, l := range [][]impl.Vec{smallSquare(), largestSquare(), pentagon(), ring(), bowl(3), bowl(15), vecs(-1000, 1000, -100, -10, 0, 10)} {
-		s := textOf(l)
-		for i := range len(s) + 1 {
-			for _, b := range strings.Split("-+,/ \n\x000129", "") {
-				check(s[:i] + b + s[i:])
-				if i < len(s) {
-					check(s[:i] + b + s[i+1:])
-				}
-			}
-			if i < len(s) {
-				check(s[:i] + s[i+1:])
-			}
-			check(s[:i])
-			check(s[i:])
-		}
+		forTextsNearby(textOf(l), "-+,/ \n\x000129", check)
 	}
 }
 

@@ -106,6 +106,24 @@ func forAllTexts(alphabet string, most int, look func(string)) {
 	}
 }
 
+// forTextsNearby calls look with every text that has one byte of alphabet more than s, or in the place of one of s, or
+// one byte less, and with every beginning and end of s.
+func forTextsNearby(s string, alphabet string, look func(string)) {
+	for i := range len(s) + 1 {
+		for _, b := range strings.Split(alphabet, "") {
+			look(s[:i] + b + s[i:])
+			if i < len(s) {
+				look(s[:i] + b + s[i+1:])
+			}
+		}
+		if i < len(s) {
+			look(s[:i] + s[i+1:])
+		}
+		look(s[:i])
+		look(s[i:])
+	}
+}
+
 func TestIsDigits(t *testing.T) {
 	for _, s := range []string{"0", "9", "09", "007", "0123456789", strings.Repeat("5", 3000)} {
 		if !impl.IsDigits(s) {

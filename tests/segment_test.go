@@ -76,15 +76,16 @@ func wantedMeet(a, b, c, d bigPoint) bool {
 	return isBetween(a, c, d) || isBetween(b, c, d) || isBetween(c, a, b) || isBetween(d, a, b)
 }
 
-// wantedMeeting cuts off what is to the right of an edge, and looks whether anything of the segment is left.
-func wantedMeeting(l []impl.Vec, p, q bigPoint) bool {
-	first, last := new(big.Rat), big.NewRat(1, 1)
+// partInside is what is left of a segment after all that is to the right of an edge is cut off: it leads from the part
+// first of its length to the part last. If nothing is left, last is less than first.
+func partInside(l []impl.Vec, p, q bigPoint) (first, last *big.Rat) {
+	first, last = new(big.Rat), big.NewRat(1, 1)
 	for i, corner := range l {
 		a := bigPointOfVec(corner)
 		edge := a.wayTo(bigPointOfVec(l[(i+1)%len(l)]))
 		atP, atQ := cross(edge, a.wayTo(p)), cross(edge, a.wayTo(q))
 		if atP.Sign() < 0 && atQ.Sign() < 0 {
-			return false
+			return big.NewRat(1, 1), new(big.Rat)
 		}
 		part := new(big.Rat).Quo(atP, nonzero(new(big.Rat).Sub(atP, atQ)))
 		if atP.Sign() < 0 && part.Cmp(first) > 0 {
@@ -94,6 +95,11 @@ func wantedMeeting(l []impl.Vec, p, q bigPoint) bool {
 			last = part
 		}
 	}
+	return first, last
+}
+
+func wantedMeeting(l []impl.Vec, p, q bigPoint) bool {
+	first, last := partInside(l, p, q)
 	return first.Cmp(last) <= 0
 }
 
